@@ -7,13 +7,18 @@ POINTS = 1
 ARC = 2
 MARK = 3
 FORM = 4
+TEXT = 5
+RANK = 6
+HOLDS = 7
+TOLD = 8
+REPLY = 9
 
 # By a call's number: how many whole numbers it has ahead of its row, if it has one.
-WHOLE_COUNTS = {0: 0, 1: 2, 2: 4, 3: 4, 4: 2, 5: 2}
+WHOLE_COUNTS = {0: 0, 1: 2, 2: 4, 3: 4, 4: 2, 5: 2, 6: 1, 7: 2, 8: 0, 9: 4, 10: 1}
 
 
 def has_row(call):
-    return call == FORM
+    return call == FORM or call == REPLY
 
 
 def ask(table, call, wholes, row):
@@ -27,8 +32,18 @@ def ask(table, call, wholes, row):
         return table.mark(wholes[0], wholes[1], wholes[2], wholes[3])
     if call == FORM:
         return table.form(wholes[0], wholes[1], row)
-    # The counts above name no other call but text.
-    return table.text(wholes[0], wholes[1])
+    if call == TEXT:
+        return table.text(wholes[0], wholes[1])
+    if call == RANK:
+        return table.rank(wholes[0])
+    if call == HOLDS:
+        return table.holds(wholes[0], wholes[1])
+    if call == TOLD:
+        return table.told()
+    if call == REPLY:
+        return table.reply(wholes[0], wholes[1], wholes[2], wholes[3], row)
+    # The counts above name no other call but stones.
+    return table.stones(wholes[0])
 
 
 def answers_of(table, calls):

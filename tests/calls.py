@@ -35,6 +35,39 @@ def text(slot, most):
     return [5, slot, most]
 
 
+def rank(slot):
+    return [6, slot]
+
+
+def holds(g, slot):
+    return [7, g, slot]
+
+
+def told():
+    return [8]
+
+
+def reply(side, x, k, lie=()):
+    return [9, side, x, k, len(lie), len(lie)] + list(lie)
+
+
+def reply_without_row(side, x, k, n):
+    return [9, side, x, k, n, 0]
+
+
+def stones(p):
+    return [10, p]
+
+
+def structure(g, size, arcs=(), first=(), second=()):
+    """The calls that make a structure: its arcs, the points with mark 0 and those with mark 1."""
+    made = [points(g, size)]
+    made += [arc(g, x, y, 1) for x, y in arcs]
+    made += [mark(g, 0, x, 1) for x in first]
+    made += [mark(g, 1, x, 1) for x in second]
+    return made
+
+
 def codes_of(sentence):
     if isinstance(sentence, str):
         return [ord(sign) for sign in sentence]

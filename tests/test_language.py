@@ -93,6 +93,45 @@ class LanguageTest(unittest.TestCase):
         for path, node in nodes(ast.Constant):
             self.assertNotIsInstance(node.value, (float, bytes, complex), path)
 
+    def test_comprehensions(self):
+        for path, node in nodes(ast.ListComp):
+            self.assertEqual(len(node.generators), 1, path)
+            self.assertLessEqual(len(node.generators[0].ifs), 1, path)
+
+    def test_is_stands_beside_none_true_and_false_alone(self):
+        for path, node in nodes(ast.Compare):
+            for sign, right in zip(node.ops, node.comparators):
+                if isinstance(sign, (ast.Is, ast.IsNot)):
+                    self.assertIn(ast.unparse(right), ("None", "True", "False"), path)
+
+    def test_no_power_and_no_set(self):
+        for path, node in nodes(ast.Pow, ast.Set):
+            self.fail(path)
+        for path, node in nodes(ast.Name):
+            self.assertNotIn(node.id, ("set", "frozenset"), path)
+
+    def test_a_class_holds_methods_alone(self):
+        for path, node in nodes(ast.ClassDef):
+            for part in node.body:
+                self.assertIsInstance(part, ast.FunctionDef, path)
+
+    def test_what_is_made_to_be_walked_is_walked_at_once(self):
+        for path, node in nodes(ast.Assign, ast.Return):
+            if isinstance(node.value, ast.Call):
+                called = node.value.func
+                name = called.id if isinstance(called, ast.Name) else called.attr
+                self.assertNotIn(name, ("zip", "enumerate", "reversed", "range", "items", "keys", "values"), path)
+
+    def test_no_two_files_draw_from_one_another(self):
+        drawn = {path.stem: set() for path in files()}
+        for path, node in nodes(ast.ImportFrom):
+            drawn[path.stem].add(node.module.rpartition(".")[2])
+        while drawn:
+            free = [name for name, others in drawn.items() if not others & set(drawn)]
+            self.assertNotEqual(free, [], drawn)
+            for name in free:
+                drawn.pop(name)
+
     def test_names(self):
         for path, node in nodes(ast.Name, ast.arg):
             name = node.id if isinstance(node, ast.Name) else node.arg

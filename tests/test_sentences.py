@@ -3,6 +3,7 @@
 import unittest
 
 from tests.calls import HIGHEST, LOWEST, ask, begin, codes_of, form, form_without_row, last, text
+from tests.second import NAMES, is_sentence
 
 WRONG_SLOTS = (-1, 8, -8, LOWEST, HIGHEST)
 WRONG_COUNTS = (0, -1, 257, LOWEST, HIGHEST)
@@ -35,41 +36,6 @@ BAD = (
     "AxAxAxAxAxPx", "AuAvAwAxAyEuy", "SuAvSwAxSyEuy", "AuAvAwAx!SyPy", "AuAv(AwAxSyPy|Pu)",
     "AuAv(Pu|AwAxSyPy)", "(AxPx&AuAvAwAxAyPy)",
 )
-
-NAMES = "uvwxyz"
-
-
-def measure(signs, at=0):
-    """Where the formula at a place ends, its free names and its depth; None if there's none.
-
-    A second way of reading, against which the program's is held: this one collects free names
-    from within outwards.
-    """
-    sign = signs[at:at + 1]
-    if sign in ("P", "Q", "E", "="):
-        names = signs[at + 1:at + (2 if sign in ("P", "Q") else 3)]
-        fits = len(names) == (1 if sign in ("P", "Q") else 2) and all(name in NAMES for name in names)
-        return (at + 1 + len(names), set(names), 0) if fits else None
-    if sign == "!":
-        return measure(signs, at + 1)
-    if sign in ("A", "S"):
-        name = signs[at + 1:at + 2]
-        inner = measure(signs, at + 2) if name and name in NAMES else None
-        return inner and (inner[0], inner[1] - {name}, inner[2] + 1)
-    if sign != "(":
-        return None
-    left = measure(signs, at + 1)
-    if not left or signs[left[0]:left[0] + 1] not in ("&", "|"):
-        return None
-    right = measure(signs, left[0] + 1)
-    if not right or signs[right[0]:right[0] + 1] != ")":
-        return None
-    return (right[0] + 1, left[1] | right[1], max(left[2], right[2]))
-
-
-def is_sentence(signs):
-    found = measure(signs)
-    return bool(found) and found[0] == len(signs) and not found[1] and found[2] <= 4
 
 
 def changed_by_one_sign(signs, alphabet):

@@ -1,14 +1,9 @@
-"""Points 1 to 4: begin, points, arc, mark.
-
-None of the calls so far tells which arcs and marks there are: through the answers only the
-numbers of points show. So what the calls leave behind is looked at on the table as well.
-"""
+"""Points 1 to 4: begin, points, arc, mark."""
 
 import unittest
 
-from pointgame.desk import answers, answers_of
-from pointgame.table import Table
-from tests.calls import (HIGHEST, LOWEST, arc, ask, begin, form, in_a_row, last, mark, points, text)
+from pointgame.desk import answers
+from tests.calls import HIGHEST, LOWEST, arc, ask, begin, form, holds, last, mark, points, text
 
 WRONG_STRUCTURES = (-1, 2, LOWEST, HIGHEST)
 
@@ -20,20 +15,33 @@ def sizes_after(*calls):
     return [given[:14].count([0]), given[14:].count([0])]
 
 
-def table_after(*calls):
-    table = Table()
-    answers_of(table, in_a_row((begin(),) + calls))
-    return table
+def line_of(*calls):
+    return calls
 
 
-def arcs_of(table, g):
-    rows = table.structures[g].arcs
-    return [(x, y) for x, row in enumerate(rows) for y, on in enumerate(row) if on]
+def arcs_of(line, g):
+    """Which arcs a line of calls leaves: the points of each are marked, and a sentence asks about these."""
+    size = sizes_after(*line)[g]
+    found = []
+    for x in range(size):
+        for y in range(size):
+            cleared = [mark(g, m, point, 0) for m in (0, 1) for point in range(size)]
+            asked = [mark(g, 0, x, 1), mark(g, 1, y, 1), form(0, "SxSy((Px&Qy)&Exy)"), holds(g, 0)]
+            if last(*line, *cleared, *asked) == [1]:
+                found.append((x, y))
+    return found
 
 
-def marks_of(table, g):
-    rows = table.structures[g].marks
-    return [(m, x) for m, row in enumerate(rows) for x, on in enumerate(row) if on]
+def marks_of(line, g):
+    """Which marks a line of calls leaves: an arc to itself singles a point out, a sentence asks about it."""
+    size = sizes_after(*line)[g]
+    cleared = [arc(g, x, y, 0) for x in range(size) for y in range(size)]
+    found = []
+    for m, sentence in enumerate(("Sx(Exx&Px)", "Sx(Exx&Qx)")):
+        for x in range(size):
+            if last(*line, *cleared, arc(g, x, x, 1), form(0, sentence), holds(g, 0)) == [1]:
+                found.append((m, x))
+    return found
 
 
 class BeginTest(unittest.TestCase):
@@ -55,9 +63,9 @@ class BeginTest(unittest.TestCase):
         self.assertEqual(ask(*filled, begin(), *asked)[9:], [[-2]] * 8)
 
     def test_coming_again_takes_arcs_and_marks_away(self):
-        table = table_after(points(0, 2), arc(0, 0, 1, 1), mark(0, 1, 1, 1), begin(), points(0, 2))
-        self.assertEqual(arcs_of(table, 0), [])
-        self.assertEqual(marks_of(table, 0), [])
+        line = line_of(points(0, 2), arc(0, 0, 1, 1), mark(0, 1, 1, 1), begin(), points(0, 2))
+        self.assertEqual(arcs_of(line, 0), [])
+        self.assertEqual(marks_of(line, 0), [])
 
 
 class PointsTest(unittest.TestCase):
@@ -88,20 +96,20 @@ class PointsTest(unittest.TestCase):
     def test_refusal_keeps_arcs_and_marks(self):
         kept = (points(0, 2), arc(0, 0, 1, 1), mark(0, 1, 0, 1))
         for wrong in (points(0, 13), points(0, -1), points(2, 2), points(-1, 2)):
-            table = table_after(*kept, wrong)
-            self.assertEqual(arcs_of(table, 0), [(0, 1)])
-            self.assertEqual(marks_of(table, 0), [(1, 0)])
+            line = line_of(*kept, wrong)
+            self.assertEqual(arcs_of(line, 0), [(0, 1)])
+            self.assertEqual(marks_of(line, 0), [(1, 0)])
 
     def test_given_anew_takes_arcs_and_marks_of_that_structure_alone(self):
         filled = []
         for g in (0, 1):
             filled.extend([points(g, 3), arc(g, 1, 2, 1), mark(g, 0, 2, 1)])
         for g in (0, 1):
-            table = table_after(*filled, points(g, 3))
-            self.assertEqual(arcs_of(table, g), [])
-            self.assertEqual(marks_of(table, g), [])
-            self.assertEqual(arcs_of(table, 1 - g), [(1, 2)])
-            self.assertEqual(marks_of(table, 1 - g), [(0, 2)])
+            line = line_of(*filled, points(g, 3))
+            self.assertEqual(arcs_of(line, g), [])
+            self.assertEqual(marks_of(line, g), [])
+            self.assertEqual(arcs_of(line, 1 - g), [(1, 2)])
+            self.assertEqual(marks_of(line, 1 - g), [(0, 2)])
 
     def test_keeps_the_slots(self):
         self.assertEqual(last(form(3, "SxQx"), points(0, 2), points(0, 13), text(3, 0)), [4])
@@ -114,27 +122,27 @@ class ArcTest(unittest.TestCase):
     def test_any_number_but_zero_puts_an_arc(self):
         for on in (1, 2, 256, -1, HIGHEST, LOWEST):
             self.assertEqual(last(*self.made, arc(0, 2, 1, on)), [0])
-            table = table_after(*self.made, arc(0, 2, 1, on))
-            self.assertEqual(arcs_of(table, 0), [(2, 1)])
-            self.assertEqual(arcs_of(table, 1), [])
+            line = line_of(*self.made, arc(0, 2, 1, on))
+            self.assertEqual(arcs_of(line, 0), [(2, 1)])
+            self.assertEqual(arcs_of(line, 1), [])
 
     def test_zero_takes_the_arc_away(self):
         self.assertEqual(ask(*self.made, arc(1, 0, 1, 1), arc(1, 0, 1, 0))[2:], [[0], [0]])
         put = (arc(1, 0, 1, 1), arc(1, 1, 0, 1))
-        self.assertEqual(arcs_of(table_after(*self.made, *put, arc(1, 0, 1, 0)), 1), [(1, 0)])
+        self.assertEqual(arcs_of(line_of(*self.made, *put, arc(1, 0, 1, 0)), 1), [(1, 0)])
 
     def test_zero_where_no_arc_is(self):
         self.assertEqual(last(*self.made, arc(0, 0, 1, 0)), [0])
-        self.assertEqual(arcs_of(table_after(*self.made, arc(0, 0, 1, 0)), 0), [])
+        self.assertEqual(arcs_of(line_of(*self.made, arc(0, 0, 1, 0)), 0), [])
 
     def test_from_a_point_to_itself(self):
         self.assertEqual(ask(*self.made, arc(0, 2, 2, 1), arc(0, 2, 2, 0))[2:], [[0], [0]])
-        self.assertEqual(arcs_of(table_after(*self.made, arc(0, 2, 2, 1)), 0), [(2, 2)])
+        self.assertEqual(arcs_of(line_of(*self.made, arc(0, 2, 2, 1)), 0), [(2, 2)])
 
     def test_put_twice_is_there_once(self):
         twice = (arc(0, 0, 1, 1), arc(0, 0, 1, 5))
-        self.assertEqual(arcs_of(table_after(*self.made, *twice), 0), [(0, 1)])
-        self.assertEqual(arcs_of(table_after(*self.made, *twice, arc(0, 0, 1, 0)), 0), [])
+        self.assertEqual(arcs_of(line_of(*self.made, *twice), 0), [(0, 1)])
+        self.assertEqual(arcs_of(line_of(*self.made, *twice, arc(0, 0, 1, 0)), 0), [])
 
     def test_wrong_numbers_change_nothing(self):
         wrong = [arc(g, 0, 1, 0) for g in WRONG_STRUCTURES]
@@ -143,9 +151,9 @@ class ArcTest(unittest.TestCase):
         wrong += [arc(1, 2, 0, 1), arc(1, 0, 2, 1), arc(0, 3, 3, 1), arc(2, 9, 9, 1)]
         for call in wrong:
             self.assertEqual(last(*self.made, call), [-1], call)
-            table = table_after(*self.made, arc(0, 0, 1, 1), arc(1, 0, 1, 1), call)
-            self.assertEqual(arcs_of(table, 0), [(0, 1)], call)
-            self.assertEqual(arcs_of(table, 1), [(0, 1)], call)
+            line = line_of(*self.made, arc(0, 0, 1, 1), arc(1, 0, 1, 1), call)
+            self.assertEqual(arcs_of(line, 0), [(0, 1)], call)
+            self.assertEqual(arcs_of(line, 1), [(0, 1)], call)
 
     def test_no_points_no_arc(self):
         self.assertEqual(ask(arc(0, 0, 0, 1), arc(1, 0, 0, 0)), [[-1], [-1]])
@@ -164,15 +172,15 @@ class MarkTest(unittest.TestCase):
         for on in (1, 2, 256, -1, HIGHEST, LOWEST):
             for m in (0, 1):
                 self.assertEqual(last(*self.made, mark(1, m, 1, on)), [0])
-                table = table_after(*self.made, mark(1, m, 1, on))
-                self.assertEqual(marks_of(table, 1), [(m, 1)])
-                self.assertEqual(marks_of(table, 0), [])
+                line = line_of(*self.made, mark(1, m, 1, on))
+                self.assertEqual(marks_of(line, 1), [(m, 1)])
+                self.assertEqual(marks_of(line, 0), [])
 
     def test_zero_takes_that_mark_away(self):
         put = (mark(0, 0, 2, 1), mark(0, 1, 2, 1))
         self.assertEqual(ask(*self.made, *put, mark(0, 0, 2, 0))[2:], [[0], [0], [0]])
-        self.assertEqual(marks_of(table_after(*self.made, *put, mark(0, 0, 2, 0)), 0), [(1, 2)])
-        self.assertEqual(marks_of(table_after(*self.made, *put, mark(0, 1, 2, 0)), 0), [(0, 2)])
+        self.assertEqual(marks_of(line_of(*self.made, *put, mark(0, 0, 2, 0)), 0), [(1, 2)])
+        self.assertEqual(marks_of(line_of(*self.made, *put, mark(0, 1, 2, 0)), 0), [(0, 2)])
 
     def test_zero_where_no_mark_is(self):
         self.assertEqual(last(*self.made, mark(0, 1, 0, 0)), [0])
@@ -184,9 +192,9 @@ class MarkTest(unittest.TestCase):
         wrong += [mark(1, 0, 2, 1), mark(2, 2, 9, 1)]
         for call in wrong:
             self.assertEqual(last(*self.made, call), [-1], call)
-            table = table_after(*self.made, mark(0, 0, 1, 1), mark(1, 0, 1, 1), call)
-            self.assertEqual(marks_of(table, 0), [(0, 1)], call)
-            self.assertEqual(marks_of(table, 1), [(0, 1)], call)
+            line = line_of(*self.made, mark(0, 0, 1, 1), mark(1, 0, 1, 1), call)
+            self.assertEqual(marks_of(line, 0), [(0, 1)], call)
+            self.assertEqual(marks_of(line, 1), [(0, 1)], call)
 
     def test_no_points_no_mark(self):
         self.assertEqual(ask(mark(0, 0, 0, 1), mark(1, 1, 0, 0)), [[-1], [-1]])
